@@ -1,0 +1,1 @@
+"""Oven batches with temperature ranges."""
