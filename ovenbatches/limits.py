@@ -19,6 +19,11 @@ def is_capacity(capacity):
     return LOWEST_CAPACITY <= capacity <= HIGHEST_CAPACITY
 
 
+def is_temperature(temperature):
+    """Tell whether an oven may have this temperature."""
+    return LOWEST_TEMPERATURE <= temperature <= HIGHEST_TEMPERATURE
+
+
 def is_temperature_range(min_temperature, max_temperature):
     """Tell whether a product may have these two as its lowest and its highest temperature."""
     return LOWEST_TEMPERATURE <= min_temperature <= max_temperature <= HIGHEST_TEMPERATURE

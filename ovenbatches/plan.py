@@ -6,6 +6,16 @@ def can_be_baked(product, temperature):
     return product.min_temperature <= temperature <= product.max_temperature
 
 
+def have_a_shared_temperature(product, other):
+    """Tell whether there is a temperature at which both products can be baked."""
+    return product.min_temperature <= other.max_temperature and other.min_temperature <= product.max_temperature
+
+
+def all_tins(products):
+    """The number of tins of each product."""
+    return [product.tins for product in products]
+
+
 def filling_order(products):
     """The numbers of the products in the order in which a batch is filled with them."""
     return sorted(range(len(products)), key=lambda i: (products[i].max_temperature, i))
@@ -30,7 +40,7 @@ def next_temperature(products, remaining):
 def planned_batches(products, capacity):
     """The planned batches in the order of their numbers, each as its temperature and a list of tins."""
     batches = []
-    remaining = [product.tins for product in products]
+    remaining = all_tins(products)
     # Each batch takes a tin at least: capacity is not 0, and its temperature suits the product it is chosen by.
     while sum(remaining) > 0:
         temperature = next_temperature(products, remaining)

@@ -2,8 +2,19 @@
 
 from ovenbatches.request import Request
 
-# How many numbers follow a call's own number, from create to temperatures.
-PARAMETER_COUNTS = (1, 3, 2, 3, 1, 1, 0, 1, 0)
+CHECK_BATCHES = 15
+
+# How many numbers follow a call's own number, from create to describe; of check_batches, ahead of its list.
+PARAMETER_COUNTS = (1, 3, 2, 3, 1, 1, 0, 1, 0, 1, 1, 2, 1, 2, 1, 1, 0)
+
+
+def end_of_call(calls, at):
+    """The place behind the last number of the call that begins at a place."""
+    number = calls[at]
+    end = at + 1 + PARAMETER_COUNTS[number]
+    if number == CHECK_BATCHES:
+        return end + calls[at + 1]
+    return end
 
 
 def answers(calls):
@@ -12,9 +23,8 @@ def answers(calls):
     answered = []
     at = 0
     while at < len(calls):
-        number = calls[at]
-        end = at + 1 + PARAMETER_COUNTS[number]
-        answer = request.answer(number, calls[at + 1:end])
+        end = end_of_call(calls, at)
+        answer = request.answer(calls[at], calls[at + 1:end])
         answered.append(len(answer))
         answered.extend(answer)
         at = end

@@ -1,11 +1,16 @@
 """How the tests write calls and read their answers, and instances to go through."""
 
 import itertools
+import unittest
 
 from ovenbatches.tins import answers
 
 LEAST = -2147483648
 GREATEST = 2147483647
+
+BAD_TINS = [-1, 10, LEAST, GREATEST]
+BAD_CAPACITIES = [-1, 0, 21, LEAST, GREATEST]
+BAD_TEMPERATURES = [-1, 401, LEAST, GREATEST]
 
 NO_INSTANCE = [-11]
 MISSING = [-2]
@@ -49,6 +54,38 @@ def temperatures():
     return [8]
 
 
+def best_order(start):
+    return [9, start]
+
+
+def min_change(start):
+    return [10, start]
+
+
+def are_compatible(i, j):
+    return [11, i, j]
+
+
+def fill_batch(temperature):
+    return [12, temperature]
+
+
+def min_batches_if_tins(i, tins):
+    return [13, i, tins]
+
+
+def min_batches_if_capacity(capacity):
+    return [14, capacity]
+
+
+def check_batches(batches):
+    return [15, len(batches)] + batches
+
+
+def describe():
+    return [16]
+
+
 def flat(calls):
     """The list that is handed in for these calls."""
     return [number for call in calls for number in call]
@@ -86,6 +123,12 @@ def making(capacity, products):
     return [create(capacity)] + [add_product(*product) for product in products]
 
 
+PRODUCTS = [(180, 200, 5), (190, 230, 4), (220, 250, 3)]
+THREE = making(6, PRODUCTS)
+SIX_PRODUCTS = [(10 * i, 10 * i + 15, i + 1) for i in range(6)]
+SIX = making(4, SIX_PRODUCTS)
+
+
 def batches_of(*calls):
     """The planned batches behind these calls, as batch(k) tells them."""
     count = last(*calls, min_batches())[0]
@@ -99,7 +142,7 @@ def batches_of(*calls):
 
 def state_behind(*calls):
     """All that can be asked about an instance behind these calls: what it plans, and then what it holds."""
-    planned = [min_batches(), temperatures()] + [batch(k) for k in range(9)]
+    planned = [describe(), min_batches(), temperatures()] + [batch(k) for k in range(9)]
     held = [set_capacity(1)]
     for i in range(6):
         held += [set_tins(i, 0), set_temperatures(i, 0, 0)]
@@ -107,8 +150,11 @@ def state_behind(*calls):
 
 
 def holds(*calls):
-    """The capacity and the products, each (min, max, tins), that an instance holds behind these calls."""
-    state = state_behind(*calls)[11:]
+    """The capacity and the products, each (min, max, tins), that an instance holds behind these calls.
+
+    What the calls that change it answer tells them, so that describe is not asked here.
+    """
+    state = state_behind(*calls)[12:]
     products = []
     for i in range(6):
         tins, range_of_product = state[1 + 2 * i], state[2 + 2 * i]
@@ -118,6 +164,37 @@ def holds(*calls):
     if left != ([len(products) - 1] if products else MISSING):
         raise AssertionError(f"{left} left of {products}")
     return state[0][0], products
+
+
+def bad_indices(count):
+    """Numbers that no product has, where there are `count`."""
+    return sorted({-1, -count, count, count + 1, LEAST, GREATEST})
+
+
+def is_solution(capacity, products, batches):
+    """Whether batches, each a temperature and then tins, are a solution, by the document's words."""
+    for temperature, *tins in batches:
+        if len(tins) != len(products) or min(tins, default=0) < 0 or sum(tins) > capacity:
+            return False
+        for (low, high, wanted), put in zip(products, tins):
+            if put > 0 and not low <= temperature <= high:
+                return False
+    return all(sum(row[1 + i] for row in batches) == products[i][2] for i in range(len(products)))
+
+
+class Case(unittest.TestCase):
+    def assert_unchanged(self, calls, call):
+        """Everything stands behind the call as it stood, and the call answers the same again."""
+        with self.subTest(call=call):
+            self.assertEqual(state_behind(*calls, call), state_behind(*calls))
+            answered = run(*calls, call, call)[-2:]
+            self.assertEqual(answered, [last(*calls, call)] * 2)
+
+    def assert_refused(self, calls, call, code):
+        """The call answers this code alone, and everything stands behind it as it stood."""
+        with self.subTest(call=call):
+            self.assertEqual(last(*calls, call), code)
+            self.assert_unchanged(calls, call)
 
 
 class Numbers:

@@ -3,13 +3,9 @@
 import unittest
 
 from tests.calls import (
-    GREATEST, LEAST, MISSING, OUT_OF_RANGE, TOO_MANY_PRODUCTS, add_product, batch, batches_of, create, holds, last,
-    making, min_batches, remove_product, run, set_capacity, set_temperatures, set_tins, state_behind, temperatures)
-
-PRODUCTS = [(180, 200, 5), (190, 230, 4), (220, 250, 3)]
-THREE = making(6, PRODUCTS)
-SIX_PRODUCTS = [(10 * i, 10 * i + 15, i + 1) for i in range(6)]
-SIX = making(4, SIX_PRODUCTS)
+    BAD_CAPACITIES, BAD_TINS, GREATEST, LEAST, MISSING, OUT_OF_RANGE, PRODUCTS, SIX, SIX_PRODUCTS, THREE,
+    TOO_MANY_PRODUCTS, Case, add_product, bad_indices, batches_of, holds, last, making, min_batches, remove_product,
+    run, set_capacity, set_temperatures, set_tins, state_behind, temperatures)
 
 GOOD_RANGES = [(0, 0), (0, 400), (400, 400), (0, 1), (399, 400), (200, 200), (199, 200)]
 BAD_RANGES = [
@@ -17,20 +13,6 @@ BAD_RANGES = [
     (401, 200), (LEAST, 200), (200, LEAST), (GREATEST, 200), (200, GREATEST), (LEAST, GREATEST), (LEAST, LEAST),
     (GREATEST, GREATEST)]
 GOOD_TINS = [0, 1, 5, 8, 9]
-BAD_TINS = [-1, 10, LEAST, GREATEST]
-BAD_CAPACITIES = [0, 21, -1, LEAST, GREATEST]
-
-
-def bad_indices(count):
-    return [-1, count, -count, count + 1, LEAST, GREATEST]
-
-
-class Case(unittest.TestCase):
-    def assert_refused(self, calls, call, code):
-        """The call answers this code alone, and everything stands behind it as it stood."""
-        with self.subTest(call=call):
-            self.assertEqual(last(*calls, call), code)
-            self.assertEqual(state_behind(*calls, call), state_behind(*calls))
 
 
 class AddProduct(Case):
@@ -184,16 +166,6 @@ class SetCapacity(Case):
         for calls in (making(6, []), THREE):
             for capacity in BAD_CAPACITIES:
                 self.assert_refused(calls, set_capacity(capacity), OUT_OF_RANGE)
-
-
-class Queries(Case):
-    def test_leave_the_instance_unchanged(self):
-        for calls in (making(6, []), THREE, SIX):
-            for call in (min_batches(), batch(0), batch(1), batch(-1), temperatures()):
-                with self.subTest(call=call):
-                    self.assertEqual(state_behind(*calls, call, call), state_behind(*calls))
-                    self.assertEqual(run(*calls, call, call)[-2], run(*calls, call)[-1])
-                    self.assertEqual(run(*calls, call, call)[-1], run(*calls, call)[-1])
 
 
 if __name__ == "__main__":

@@ -3,7 +3,8 @@
 import unittest
 
 from tests.calls import (
-    GREATEST, LEAST, MISSING, batch, batches_of, instances, last, making, min_batches, run, state_behind, temperatures)
+    GREATEST, LEAST, MISSING, batch, batches_of, instances, last, making, min_batches, run, state_behind,
+    temperatures)
 
 
 class Planned(unittest.TestCase):
